@@ -1,4 +1,4 @@
-// Package grammar has what the parser and the printer both know of the language: its words, and what may stand in it.
+// Package grammar has what the parser, the printer and the linker know of the language: its words, and what may stand in it.
 package grammar
 
 import (
