@@ -3,6 +3,7 @@ package linker
 import (
 	"accesscontrol/api"
 	"accesscontrol/bitset"
+	"accesscontrol/expression"
 	"accesscontrol/level"
 )
 
@@ -120,6 +121,10 @@ func (c checker) sensitivities() api.Errno {
 func (c checker) categories() api.Errno {
 	names := space{}
 	return each(c.p.Cats, api.MaxCats, func(name *string) api.Errno { return names.add(*name) })
+}
+
+func (c checker) conditions() api.Errno {
+	return each(c.p.Conds, api.MaxConds, func(e *api.Expr) api.Errno { return expression.Condition(e, len(c.p.Bools)) })
 }
 
 // context returns the error of a context.

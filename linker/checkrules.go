@@ -2,6 +2,7 @@ package linker
 
 import (
 	"accesscontrol/api"
+	"accesscontrol/expression"
 	"accesscontrol/grammar"
 )
 
@@ -65,7 +66,7 @@ func (c checker) constraints() api.Errno {
 		case (x.Perms == 0) != x.Validate:
 			return api.ErrArg
 		}
-		return c.expression(&x.Expr, x.Validate)
+		return expression.Constraint(&x.Expr, c.p, x.Validate)
 	})
 }
 

@@ -4,6 +4,7 @@ import (
 	"slices"
 
 	"accesscontrol/api"
+	"accesscontrol/expression"
 	"accesscontrol/nameset"
 )
 
@@ -60,7 +61,7 @@ func same(a, b *api.Expr) bool {
 
 // constraint adds a constraint for each class.
 func (k *link) constraint(s *api.Stmt) error {
-	if hasMoreLevels(&s.Cond, api.MaxNest) {
+	if expression.TooDeep(&s.Cond) {
 		return k.fail(api.ErrLong)
 	}
 	e, err := k.members(&s.Cond)
@@ -68,7 +69,7 @@ func (k *link) constraint(s *api.Stmt) error {
 		return err
 	}
 	validate := s.Kind == api.StmtValidate
-	if code := (checker{&k.policy}).expression(&e, validate); code != api.OK {
+	if code := expression.Constraint(&e, &k.policy, validate); code != api.OK {
 		return k.fail(code)
 	}
 	return k.eachClass(s, func(class int) error {
@@ -92,7 +93,7 @@ func (k *link) members(e *api.Expr) (api.Expr, error) {
 			return api.Expr{}, k.fail(code)
 		}
 		c.Set = s
-		if isEmpty(s) && sortOf(e.A) == api.AttrType {
+		if isEmpty(s) && expression.SortOf(e.A) == api.AttrType {
 			c = api.Expr{Op: api.ExprCompare, A: e.A, Rel: api.RelDiffer, B: e.A}
 		}
 	}
@@ -109,7 +110,7 @@ func (k *link) members(e *api.Expr) (api.Expr, error) {
 // named returns the numbers of what an attribute is compared with. The names of levels mean nothing: they are an error of the expression.
 func (k *link) named(e *api.Expr) (api.Set, api.Errno) {
 	n := api.NameSet{Names: e.Names}
-	switch sortOf(e.A) {
+	switch expression.SortOf(e.A) {
 	case api.AttrUser:
 		return nameset.Listed(n, symbolNames(&k.policy, api.SymUser))
 	case api.AttrRole:
